@@ -1,0 +1,1 @@
+"""A small function in blocks; blockflow.desk answers the calls on it."""
