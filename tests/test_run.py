@@ -4,7 +4,7 @@ import unittest
 
 from tests.helper import LEAST_LONG, MOST_LONG, ZEROS, ask, blocks, last, variables
 
-# v1 is summed up to v2 down from v0: while v0 isn't 0, v2 += v0, v0 -= 1.
+# v2 becomes the sum of v0, v0 - 1 and so on down to 1; v1 is the 1 that is taken off.
 SUM = blocks(4) + [
     ("op", 0, 5, 2, 0, 0), ("op", 0, 5, 1, 0, 1), ("jump", 0, 1),
     ("branch", 1, 0, 2, 3),
