@@ -1,6 +1,10 @@
 """The desk: a list of calls on one new function is handed in, the list of their answers is given back."""
 
 from blockflow.body import Body
+from blockflow.clashing import clash, registers
+from blockflow.living import in_of, out
+from blockflow.loops import front, loop
+from blockflow.meeting import meet
 from blockflow.running import run
 from blockflow.ways import idom, over
 
@@ -12,10 +16,17 @@ BRANCH = 4
 RET = 5
 OVER = 6
 IDOM = 7
+FRONT = 8
+LOOP = 9
+IN_OF = 10
+OUT = 11
+MEET = 12
+CLASH = 13
+REGISTERS = 14
 RUN = 15
 
 # How many whole numbers each call has, ahead of its row.
-NUMBERS_OF = {0: 0, 1: 0, 2: 5, 3: 2, 4: 4, 5: 2, 6: 2, 7: 1, 15: 1}
+NUMBERS_OF = (0, 0, 5, 2, 4, 2, 2, 1, 1, 1, 1, 1, 1, 1, 1, 1)
 
 
 def changed(body, call, numbers):
@@ -32,13 +43,31 @@ def changed(body, call, numbers):
     return body.ret(numbers[0], numbers[1])
 
 
+def found(body, call, number):
+    if call == IDOM:
+        return idom(body, number)
+    if call == FRONT:
+        return front(body, number)
+    if call == LOOP:
+        return loop(body, number)
+    if call == IN_OF:
+        return in_of(body, number)
+    if call == OUT:
+        return out(body, number)
+    if call == MEET:
+        return meet(body, number)
+    return clash(body, number)
+
+
 def answer(body, call, numbers, row):
     if call <= RET:
         return [changed(body, call, numbers)]
     if call == OVER:
         return [over(body, numbers[0], numbers[1])]
-    if call == IDOM:
-        return [idom(body, numbers[0])]
+    if call <= CLASH:
+        return [found(body, call, numbers[0])]
+    if call == REGISTERS:
+        return registers(body, numbers[0])
     return run(body, numbers[0], row)
 
 

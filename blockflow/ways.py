@@ -5,8 +5,9 @@ from blockflow.body import REFUSED
 NO_BLOCK = -1
 
 
-def holds(blocks, b):
-    return blocks >> b & 1 == 1
+def holds(numbered, i):
+    # A set, of blocks or of variables, is a number with bit i for the one numbered i.
+    return numbered >> i & 1 == 1
 
 
 def behind(body, b):
@@ -29,10 +30,13 @@ def reached_without(leads, a):
     return found
 
 
-def under_each(body):
-    # For each block the set of those that it is over. Where it is not reached itself,
-    # leaving it out loses nothing, so it is over none.
-    leads = behind_each(body)
+def under(leads, a):
+    # The set of blocks that a is over. Where a is not reached itself, leaving it out
+    # loses nothing, so it is over none.
+    return reached_without(leads, NO_BLOCK) ^ reached_without(leads, a)
+
+
+def under_each(leads):
     reached = reached_without(leads, NO_BLOCK)
     return [reached ^ reached_without(leads, a) for a in range(len(leads))]
 
@@ -40,17 +44,15 @@ def under_each(body):
 def over(body, a, b):
     if not body.has_block(a) or not body.has_block(b):
         return REFUSED
-    leads = behind_each(body)
-    under = reached_without(leads, NO_BLOCK) ^ reached_without(leads, a)
-    return 1 if holds(under, b) else 0
+    return 1 if holds(under(behind_each(body), a), b) else 0
 
 
 def idom(body, b):
     if not body.has_block(b):
         return REFUSED
-    under = under_each(body)
-    above = [a for a in range(len(under)) if a != b and holds(under[a], b)]
+    unders = under_each(behind_each(body))
+    above = [a for a in range(len(unders)) if a != b and holds(unders[a], b)]
     for c in above:
-        if all([holds(under[a], c) for a in above]):
+        if all([holds(unders[a], c) for a in above]):
             return c
     return NO_BLOCK

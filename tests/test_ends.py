@@ -2,10 +2,8 @@
 
 import unittest
 
-from tests.helper import LEAST_LONG, MOST_LONG, ZEROS, ask, blocks, last, variables
+from tests.helper import LEAST, LEAST_LONG, MOST, MOST_LONG, ZEROS, ask, blocks, last, variables
 
-LEAST = -2147483648
-MOST = 2147483647
 ENDS = [("jump", 0, 1), ("branch", 0, 0, 1, 2), ("ret", 0, 0)]
 GOALS = [(0, 0), (63, 0), (1, 0), (-1, -2), (64, -2), (LEAST, -2), (MOST, -2)]
 VARIABLES = [(0, 0), (31, 0), (-1, -2), (32, -2), (LEAST, -2), (MOST, -2)]

@@ -1,31 +1,9 @@
 """Promise 4: over and idom."""
 
-import itertools
 import random
 import unittest
 
-from tests.helper import ask, blocks, last
-
-LEAST = -2147483648
-MOST = 2147483647
-
-
-def ending(b, goals):
-    """The call that makes the goals b's end; goals: None for no end, () for a ret."""
-    if goals is None:
-        return []
-    if len(goals) == 0:
-        return [("ret", b, 0)]
-    if len(goals) == 1:
-        return [("jump", b, goals[0])]
-    return [("branch", b, 0, goals[0], goals[1])]
-
-
-def built(graph):
-    calls = blocks(len(graph))
-    for b, goals in enumerate(graph):
-        calls += ending(b, goals)
-    return calls
+from tests.helper import LEAST, MOST, ask, blocks, built, graphs_of_three, meant_over
 
 
 def over_table(graph):
@@ -42,29 +20,6 @@ def over_table(graph):
 def idom_table(graph):
     calls = built(graph)
     return ask(calls + [("idom", b) for b in range(len(graph))])[len(calls):]
-
-
-def ways_to_all(graph):
-    """For each block the ways from block 0 to it that come by no block twice, each as its blocks."""
-    ways = [[] for goals in graph]
-    pending = [(0,)]
-    while pending:
-        way = pending.pop()
-        ways[way[-1]].append(way)
-        for c in graph[way[-1]] or ():
-            if c < len(graph) and c not in way:
-                pending.append(way + (c,))
-    return ways
-
-
-def meant_over(graph):
-    table = []
-    for ways in ways_to_all(graph):
-        common = set(ways[0]) if ways else set()
-        for way in ways:
-            common &= set(way)
-        table.append(sorted(common))
-    return table
 
 
 def meant_idom(graph):
@@ -196,9 +151,7 @@ class AgainstAllWays(unittest.TestCase):
         self.assertEqual(told, meant, graph)
 
     def test_every_function_of_three_blocks(self):
-        goals = range(4)
-        choices = [None, ()] + [(c,) for c in goals] + [(c, d) for c in goals for d in goals if c < d]
-        for graph in itertools.product(choices, repeat=3):
+        for graph in graphs_of_three():
             self.check(graph)
 
     def test_larger_functions(self):

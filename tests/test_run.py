@@ -2,7 +2,7 @@
 
 import unittest
 
-from tests.helper import LEAST_LONG, MOST_LONG, ZEROS, ask, blocks, last, variables
+from tests.helper import LEAST_LONG, MOST_LONG, ZEROS, ask, asked_of, blocks, last, variables
 
 # v2 becomes the sum of v0, v0 - 1 and so on down to 1; v1 is the 1 that is taken off.
 SUM = blocks(4) + [
@@ -75,6 +75,11 @@ class WhatCounts(unittest.TestCase):
         calls = [("block",), ("op", 0, 0, 0, 0, 1), ("jump", 0, 0), ("run", 1000000, variables(v1=1))]
         self.assertEqual(last(calls), -1)
 
+    def test_used_up_just_before_each_step_and_end(self):
+        calls = blocks(2) + [("op", 0, 5, 0, 0, 1), ("op", 0, 5, 1, 0, 2), ("jump", 0, 1), ("op", 1, 0, 2, 0, 1),
+                             ("ret", 1, 2)]
+        self.assertEqual(asked_of(calls, [("run", steps, ZEROS) for steps in range(7)]), [-1] * 5 + [[0, 3]] * 2)
+
     def test_the_most_that_may_be_allowed(self):
         self.assertEqual(last([("block",), ("ret", 0, 9), ("run", 4294967295, variables(v9=1))]), [0, 1])
 
@@ -100,6 +105,25 @@ class NoWayOn(unittest.TestCase):
         calls = blocks(2) + [("jump", 0, 1), ("op", 1, 5, 0, 0, 7)]
         runs = [("run", steps, ZEROS) for steps in range(4)]
         self.assertEqual(ask(calls + runs)[4:], [-1, -1, -3, -3])
+
+    def test_block_0_is_not_there_any_more(self):
+        calls = [("block",), ("ret", 0, 0), ("init",)]
+        self.assertEqual(asked_of(calls, [("run", 0, ZEROS), ("run", 5, ZEROS)]), [-3, -3])
+
+    def test_a_branch_to_a_block_that_is_not_there(self):
+        calls = [("block",), ("branch", 0, 0, 1, 2)]
+        runs = [("run", steps, variables(v0=value)) for value in [0, 1] for steps in range(3)]
+        self.assertEqual(asked_of(calls, runs), [-1, -3, -3] * 2)
+
+    def test_it_is_there_once_the_block_is_made(self):
+        calls = [("block",), ("jump", 0, 1), ("run", 9, ZEROS), ("block",), ("run", 9, ZEROS), ("ret", 1, 2),
+                 ("run", 9, variables(v2=4))]
+        self.assertEqual(ask(calls), [0, 0, -3, 1, -3, 0, [0, 4]])
+
+    def test_round_a_loop_until_no_way_leads_on(self):
+        # Each time round counts three; then the branch leads to a block without an end.
+        calls = blocks(2) + [("op", 0, 5, 1, 0, -1), ("op", 0, 0, 0, 0, 1), ("branch", 0, 0, 0, 1)]
+        self.assertEqual(asked_of(calls, [("run", 8, variables(v0=3)), ("run", 9, variables(v0=3))]), [-1, -3])
 
     def test_only_the_branch_that_is_taken_matters(self):
         calls = blocks(2) + [("branch", 0, 0, 63, 1), ("ret", 1, 1)]

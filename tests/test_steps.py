@@ -3,10 +3,8 @@
 import ctypes
 import unittest
 
-from tests.helper import LEAST_LONG, MOST_LONG, ZEROS, ask, last, variables
+from tests.helper import LEAST, LEAST_LONG, MOST, MOST_LONG, ZEROS, ask, last, variables
 
-LEAST = -2147483648
-MOST = 2147483647
 EDGES = [
     0, 1, -1, 2, -2, 3, 12345, -98765, 2 ** 31, -(2 ** 31), 2 ** 32, 2 ** 32 + 1, 3037000500, -3037000500,
     2 ** 62, -(2 ** 62), MOST_LONG - 1, MOST_LONG, LEAST_LONG + 1, LEAST_LONG,
